@@ -1,0 +1,1 @@
+"""Bitpack: records packed into bits by told widths."""
