@@ -1,23 +1,11 @@
 """Numbers as bits: bits_of, number_of and code_at."""
 
-import itertools
 import unittest
 
 from bitpack import codes
 from bitpack.codes import bits_of, code_at, number_of
 from bitpack.errors import TooWide
-
-
-def all_bits(most_long):
-    """Every list of at most so many bits."""
-    for long in range(most_long + 1):
-        for bits in itertools.product([0, 1], repeat=long):
-            yield list(bits)
-
-
-def written(number, width):
-    """The bits of a number by Python's own writing, not by the program's."""
-    return [int(sign) for sign in f"{number:0{width}b}"] if width else []
+from small import all_bits, written
 
 
 def code_by_point_8(bits, place, width, most):

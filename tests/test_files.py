@@ -19,7 +19,9 @@ def sources():
 class FilesTest(unittest.TestCase):
     def test_nothing_but_python_files(self):
         names = {path.name for path in PACKAGE.iterdir()} - {"__pycache__"}
-        self.assertTrue({"__init__.py", "errors.py", "codes.py", "shapes.py"} <= names)
+        self.assertEqual(names, {
+            "__init__.py", "errors.py", "codes.py", "shapes.py", "packing.py", "reading.py", "streams.py",
+        })
         for name in names:
             self.assertRegex(name, r"\A[a-z0-9_]+\.py\Z")
 
